@@ -1,0 +1,1 @@
+"""Guestcopies: meetings that come again, and each guest's own copy."""
