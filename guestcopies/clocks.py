@@ -1,6 +1,6 @@
 """Houses' clocks: local times by moments, and moments by local times."""
 
-from guestcopies.kinds import is_between
+from guestcopies.kinds import is_between, rises
 
 LAST_MOMENT = 143999999
 MOST_TURNS = 40
@@ -22,8 +22,7 @@ def is_clock(thing):
     if not all([is_turn(turn) for turn in thing]):
         return False
     moments = [moment for moment, offset in thing]
-    rising = all([ahead < behind for ahead, behind in zip(moments, moments[1:])])
-    return rising and moments[0] == 0
+    return moments[0] == 0 and rises(moments)
 
 
 def local(clock, moment):

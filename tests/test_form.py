@@ -21,6 +21,13 @@ BARRED_NAMES = set("""
     copyright credits delattr dir eval exec exit gc getattr globals hasattr help id importlib license locals
     methodcaller os quit setattr vars sys
 """.split())
+VALUE_METHODS = set("""
+    append clear copy count endswith extend find get index insert isalnum isalpha isdigit islower isspace isupper items
+    join keys ljust lower lstrip partition pop remove replace reverse rfind rjust rpartition rsplit rstrip setdefault
+    split splitlines startswith strip update upper values zfill bit_length title capitalize swapcase casefold center
+    expandtabs removeprefix removesuffix rindex isascii isdecimal isnumeric istitle isidentifier isprintable sort add
+    discard
+""".split())
 BARRED_NODES = (ast.Global, ast.AsyncFunctionDef, ast.AsyncFor, ast.AsyncWith, ast.Await, ast.Import, ast.Div)
 
 
@@ -40,6 +47,23 @@ def bound_names(nodes):
     names += [node.name for node in nodes if isinstance(node, (ast.FunctionDef, ast.ClassDef))]
     names += [node.attr for node in nodes if isinstance(node, ast.Attribute) and isinstance(node.ctx, ast.Store)]
     return names
+
+
+def imports_of(nodes):
+    """Each imported name with the file that it is from."""
+    return [(alias.name, node.module.partition(".")[2]) for node in nodes if isinstance(node, ast.ImportFrom)
+            for alias in node.names]
+
+
+def methods_of(nodes):
+    """The names of all methods of a file's classes."""
+    return {part.name for node in nodes if isinstance(node, ast.ClassDef) for part in node.body
+            if isinstance(part, ast.FunctionDef)}
+
+
+def assigned_attributes(nodes):
+    """The names of all attributes that are assigned in a file."""
+    return {node.attr for node in nodes if isinstance(node, ast.Attribute) and isinstance(node.ctx, ast.Store)}
 
 
 class Files(unittest.TestCase):
@@ -80,6 +104,52 @@ class Code(unittest.TestCase):
             for name in names:
                 self.assertTrue(name == "__init__" or not name.startswith("_"), (path.name, name))
                 self.assertFalse(name in vars(builtins) or name in BARRED_NAMES, (path.name, name))
+
+    def test_no_local_name_is_that_of_an_import_or_a_class(self):
+        for path, text in sources():
+            nodes = nodes_of(text)
+            taken = {name for name, module in imports_of(nodes)}
+            taken |= {node.name for node in nodes if isinstance(node, ast.ClassDef)}
+            for node in nodes:
+                if isinstance(node, ast.FunctionDef):
+                    inner = [part for part in ast.walk(node) if part is not node]
+                    names = [part.id for part in inner if isinstance(part, ast.Name) and isinstance(part.ctx, ast.Store)]
+                    names += [part.arg for part in inner if isinstance(part, ast.arg)]
+                    names += [part.name for part in inner if isinstance(part, ast.ExceptHandler)]
+                    self.assertFalse(taken & set(names), (path.name, node.name))
+
+    def test_a_name_is_bound_once_at_module_level(self):
+        for path, text in sources():
+            names = [name for name, module in imports_of(nodes_of(text))]
+            for node in ast.parse(text).body:
+                names += [node.name] if isinstance(node, (ast.FunctionDef, ast.ClassDef)) else []
+                names += [target.id for target in node.targets] if isinstance(node, ast.Assign) else []
+            self.assertEqual(sorted(names), sorted(set(names)), path.name)
+
+    def test_no_import_is_unused(self):
+        for path, text in sources():
+            nodes = nodes_of(text)
+            used = {node.id for node in nodes if isinstance(node, ast.Name)}
+            for name, module in imports_of(nodes):
+                self.assertIn(name, used, path.name)
+
+    def test_no_files_import_from_each_other(self):
+        waiting = {path.stem: {module for name, module in imports_of(nodes_of(text))} for path, text in sources()}
+        while waiting:
+            free = [stem for stem, modules in waiting.items() if not modules & set(waiting)]
+            self.assertTrue(free, sorted(waiting))
+            for stem in free:
+                del waiting[stem]
+
+    def test_methods_and_attributes(self):
+        every = [nodes_of(text) for path, text in sources()]
+        methods = set().union(*[methods_of(nodes) for nodes in every])
+        attributes = set().union(*[assigned_attributes(nodes) for nodes in every])
+        self.assertFalse(methods & attributes)
+        for nodes in every:
+            for node in nodes:
+                if isinstance(node, ast.Attribute):
+                    self.assertIn(node.attr, methods | attributes | VALUE_METHODS)
 
     def test_only_the_allowed_builtins_are_used(self):
         for path, text in sources():
