@@ -1,25 +1,12 @@
 """Point [10], and the interface's part of guestcopies/ruletexts.py."""
 
-import datetime
-import re
 import unittest
 
 from guestcopies.errors import GuestError, NoText
-from guestcopies.rules import is_rule
 from guestcopies.ruletexts import read_rule, show_rule
+from plaintexts import HOWS, WEEKDAY_WORDS, plain_reading
 from things import MANY_FIGURES, OwnText, OwnTuple, OwnWhole, anything, plain_kinds
 
-HOWS = (
-    (("once",), "once"), (("days", 1), "every 1 days"), (("days", 99), "every 99 days"),
-    (("weeks", 1, (0,)), "every 1 weeks on mo"), (("weeks", 2, (0, 2, 4)), "every 2 weeks on mo we fr"),
-    (("weeks", 99, (0, 1, 2, 3, 4, 5, 6)), "every 99 weeks on mo tu we th fr sa su"),
-    (("weeks", 10, (6,)), "every 10 weeks on su"), (("weeks", 3, (1, 3, 5)), "every 3 weeks on tu th sa"),
-    (("months", 1, 1), "every 1 months on 1"), (("months", 99, 31), "every 99 months on 31"),
-    (("months", 12, 29), "every 12 months on 29"), (("months", 1, 1, 0), "every 1 months on 1 mo"),
-    (("months", 2, 2, 3), "every 2 months on 2 th"), (("months", 3, 3, 1), "every 3 months on 3 tu"),
-    (("months", 3, 4, 2), "every 3 months on 4 we"), (("months", 20, 5, 6), "every 20 months on 5 su"),
-    (("months", 99, -1, 4), "every 99 months on last fr"), (("months", 1, -1, 5), "every 1 months on last sa"),
-)
 ENDS = (
     (None, ""), (("times", 1), " times 1"), (("times", 1000), " times 1000"), (("until", 9198), " until 2026-03-09"),
     (("until", 99990), " until 2274-10-07"), (("until", 9218), " until 2026-03-29"),
@@ -38,43 +25,6 @@ SOME_TEXTS = (
     "from 2026-03-09 at 07:05 for 60 every 3 months on last fr until 2026-12-31",
 )
 SIGNS = [chr(code) for code in range(32, 127) if code != 37] + ["\n"]
-NUMBER = r"(0|[1-9][0-9]*)"
-DAY = r"([0-9]{4}-[0-9]{2}-[0-9]{2})"
-WEEKDAY_WORDS = "mo tu we th fr sa su".split()
-FORM = re.compile(
-    rf"from {DAY} at ([01][0-9]|2[0-3]):([0-5][0-9]) for {NUMBER} "
-    rf"(?:(once)|every {NUMBER} days()|every {NUMBER} weeks on ((?:mo|tu|we|th|fr|sa|su)(?: (?:mo|tu|we|th|fr|sa|su))*)"
-    rf"|every {NUMBER} months on {NUMBER}|every {NUMBER} months on ([1-5]|last) (mo|tu|we|th|fr|sa|su))"
-    rf"(?: times {NUMBER}| until {DAY})?")
-
-
-def plain_day(text):
-    try:
-        return (datetime.date.fromisoformat(text) - datetime.date(2001, 1, 1)).days
-    except ValueError:
-        return None
-
-
-def plain_reading(text):
-    """The rule of a text by one pattern for all of it, or None."""
-    found = FORM.fullmatch(text)
-    if found is None or max([len(word) for word in text.split(" ")]) > 10:
-        return None
-    (day, hours, minutes, length, once, days, mark, weeks, weekdays, months, date, other_months, which, weekday,
-     times, until) = found.groups()
-    if once:
-        how = ("once",)
-    elif days:
-        how = ("days", int(days))
-    elif weeks:
-        how = ("weeks", int(weeks), tuple(WEEKDAY_WORDS.index(word) for word in weekdays.split(" ")))
-    elif months:
-        how = ("months", int(months), int(date))
-    else:
-        how = ("months", int(other_months), -1 if which == "last" else int(which), WEEKDAY_WORDS.index(weekday))
-    end = ("times", int(times)) if times else ("until", plain_day(until)) if until else None
-    rule = (plain_day(day), 60 * int(hours) + int(minutes), int(length), how, end)
-    return rule if is_rule(rule) else None
 
 
 class ShownAndRead(unittest.TestCase):
