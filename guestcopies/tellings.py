@@ -77,13 +77,27 @@ def meetings(telling, low, high):
     return [(day, meeting) for day, meeting in found if meeting is not None]
 
 
+def at_its_moment(clock, meeting):
+    """What is told of a day as a tuple (moment, length, place)."""
+    day, minute, length, place = meeting
+    return (moment_of(clock, DAY_MINUTES * day + minute), length, place)
+
+
+def moment_told(telling, day):
+    """What is told of a day as a tuple (moment, length, place), or None."""
+    meeting = told(telling, day)
+    return None if meeting is None else at_its_moment(telling[0], meeting)
+
+
 def moments(telling, low, high):
     """The moments of these meetings, as sorted tuples (moment, length, place, day)."""
-    found = []
-    for day, (on, minute, length, place) in meetings(telling, low, high):
-        moment = moment_of(telling[0], DAY_MINUTES * on + minute)
-        found.append((moment, length, place, day))
-    return sorted(found)
+    return sorted([at_its_moment(telling[0], meeting) + (day,) for day, meeting in meetings(telling, low, high)])
+
+
+def quick_to_ask(telling):
+    """A telling that tells the same, for who asks often: its rule needn't be counted through each time."""
+    clock, rule, place, changes = telling
+    return (clock, ended_by_day(rule), place, changes)
 
 
 def with_change(telling, day, change):

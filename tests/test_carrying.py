@@ -5,7 +5,8 @@ import unittest
 
 from guestcopies.carrying import carried
 from guestcopies.tellings import is_telling
-from plaindays import FACTS, plain_days
+from plaindays import plain_days
+from plaintellings import plain_carried
 from things import OwnText, OwnTuple, OwnWhole, plain_kinds
 
 CLOCK = ((0, 60),)
@@ -30,43 +31,6 @@ def months(*day, n=1, first=MARCH, end=None):
 
 def telling_of(rule, *days, change=OFF, place="room"):
     return (CLOCK, rule, place, tuple((day, change) for day in days))
-
-
-def same_stretch(kind, day):
-    """What the days of a day's week, or of its month, have alike."""
-    return (day - FACTS[day][2]) // 7 if kind == "weeks" else FACTS[day][0]
-
-
-def plain_carried(telling, clock, rule, place):
-    """The changes carried as the point words it, by the lists of all days."""
-    old_days, new_days = plain_days(telling[1]), plain_days(rule)
-    changes = dict(telling[3])
-    on, lived, lost = {}, {}, {}
-    for day in changes:
-        if day in new_days:
-            on[day], lived[day] = changes[day], day
-    for day in sorted(changes):
-        if day in lived:
-            continue
-        kinds = {telling[1][3][0], rule[3][0]}
-        targets = []
-        if kinds in ({"weeks"}, {"months"}):
-            kind = kinds.pop()
-            old_stretch = [other for other in old_days if same_stretch(kind, other) == same_stretch(kind, day)]
-            new_stretch = [other for other in new_days if same_stretch(kind, other) == same_stretch(kind, day)]
-            ahead = len([other for other in old_stretch if other < day])
-            targets = [target for target in new_stretch
-                       if len([other for other in new_stretch if other < target]) == ahead]
-        if targets and targets[0] in on:
-            lost[day] = "taken"
-        elif targets:
-            on[targets[0]], lived[day] = changes[day], targets[0]
-        elif not new_days or day < new_days[0]:
-            lost[day] = "ahead"
-        else:
-            lost[day] = "behind" if day > new_days[-1] else "between"
-    left = [(day, on[day]) for day in sorted(on) if on[day] != ("is", day, rule[1], rule[2], place)]
-    return ((clock, rule, place, tuple(left)), tuple(sorted(lived.items())), tuple(sorted(lost.items())))
 
 
 class Carried(unittest.TestCase):

@@ -7,6 +7,7 @@ from guestcopies.errors import GuestError, NoDay, TooMany
 from guestcopies.ruledays import is_day
 from guestcopies.tellings import is_telling, meetings, moments, told, with_change
 from plaindays import plain_days
+from plaintellings import slow_moment
 from things import HUGE, OwnText, OwnTuple, OwnWhole, anything, nested, plain_kinds
 
 CLOCK = ((0, 60),)
@@ -29,20 +30,6 @@ def telling_of(changes, rule=RULE, place="room", clock=CLOCK):
 def many_changes(many):
     """So many changes of the daily rule."""
     return tuple((9198 + step, OFF) for step in range(many))
-
-
-def slow_moment(clock, time):
-    """The moment of a local time, minute by minute from a day ahead of it on."""
-    before = None
-    for moment in range(time - 900, time + 2000):
-        now = moment + [offset for begin, offset in clock if begin <= moment][-1]
-        if now == time:
-            return moment
-    for moment in range(time - 900, time + 2000):
-        now = moment + [offset for begin, offset in clock if begin <= moment][-1]
-        if before is not None and before < time < now:
-            return moment
-        before = now
 
 
 class IsTelling(unittest.TestCase):

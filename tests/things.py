@@ -17,6 +17,15 @@ class OwnList(list):
     """A list of a class of its own."""
 
 
+def own(thing):
+    """The thing with all in it of classes of their own."""
+    if isinstance(thing, tuple):
+        return OwnTuple(own(part) for part in thing)
+    if isinstance(thing, list):
+        return OwnList(own(part) for part in thing)
+    return thing if thing is None else OwnText(thing) if isinstance(thing, str) else OwnWhole(thing)
+
+
 def nested(depth, last, wrap):
     """last within so many lists or tuples."""
     for step in range(depth):
