@@ -151,8 +151,8 @@ class Book:
         return list(self.invited)
 
     def at(self, version):
-        """The telling of a version."""
-        return self.tellings[version - 1]
+        """The telling of a version; None of one that the book hasn't."""
+        return self.tellings[version - 1] if 1 <= version <= self.version() else None
 
     def lost(self):
         """The changes that were lost, as tuples (version, old day, why)."""

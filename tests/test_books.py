@@ -239,6 +239,25 @@ class Inviting(Doing):
         self.refused(book, TooMany, "most", 12, lambda: book.invite("ann"))
 
 
+class At(Doing):
+
+    def test_each_version(self):
+        book = book_of()
+        tellings = [TELLING]
+        for on in (9198, 9205, 9198, 9208):
+            book.change(on, OFF if on != 9198 or len(tellings) == 1 else None)
+            tellings.append(book.telling())
+        book.tell(TURNED, DAILY, "hall")
+        book.end()
+        tellings += [book.telling(), book.telling()]
+        self.assertEqual([book.at(version) for version in range(1, 8)], tellings)
+        self.assertEqual(len({str(telling) for telling in tellings}), 6)
+
+    def test_versions_somewhat_beyond_raise_no_error(self):
+        for version in (0, -1, 2, 9):
+            self.assertIs(book_of().at(version), None)
+
+
 class Since(Doing):
 
     def sinces(self, book, *days):

@@ -1,12 +1,14 @@
-"""Point [3]: a book, copies and seats of several guests, and letters in any order, late and twice."""
+"""Point [3]: a book, copies and seats of several guests, letters in any order, late and twice, and all of it by a desk."""
 
 import random
 import unittest
 
 from guestcopies.books import Book
 from guestcopies.copies import Copy
+from guestcopies.desk import Desk
 from guestcopies.errors import GuestError, Over
 from guestcopies.seats import Seat
+from guestcopies.tellingtexts import show_telling
 from plaincopies import state
 from plaintellings import plain_moment_told
 
@@ -169,6 +171,65 @@ class Whole(unittest.TestCase):
         self.assertEqual([plain_moment_told(book.telling(), day)[0] - 1440 * day for day in (9198, 9201, 9205)], [480, 480, 420])
         book.tell(CLOCK, RULE, "room")
         self.assertEqual([book.since(day) for day in (9198, 9201, 9205, 9208)], [1, 1, 2, 2])
+
+
+class ByADesk(unittest.TestCase):
+
+    GUESTS, HOLDERS = ("ann", "bob", "caller"), ("desk", "phone")
+    DATES = ("2026-03-09", "2026-03-12", "2026-03-16")
+
+    def rows(self, chance):
+        """Drawn rows of one meeting, with its deeds, its guests' letters and some that are brought."""
+        date, guest, holder = chance.choice(self.DATES), chance.choice(self.GUESTS), chance.choice(self.HOLDERS)
+        anew = show_telling((CLOCK, chance.choice(RULES), chance.choice(("room", "hall")), ()))
+        return chance.choice((
+            f"change standup {date} off", f"change standup {date} back", f"change standup {date} is 2026-03-11 10:00 45 hall",
+            f"tell standup\n{anew}", "calls standup", f"invite standup {guest}", f"accept standup {guest} {date}",
+            f"deny standup {guest} {date}", f"answer standup {guest} {holder} {date} yes", f"answer standup {guest} {holder} all no",
+            f"offer standup {guest} {holder} {date} 2026-03-13 10:00 45", f"wish standup {guest} {holder}",
+            "end standup" if chance.random() < 0.1 else "waiting") + tuple(f"bring {chance.randint(1, 40)}" for again in range(6)))
+
+    def told_at_each_version(self, shown, desk):
+        """Each text that the book showed so far, with the newest one."""
+        if desk.say("show standup") != shown[-1]:
+            shown.append(desk.say("show standup"))
+
+    def test_each_seat_tells_what_the_book_told_and_at_last_its_newest(self):
+        chance = random.Random(333333)
+        for again in range(60):
+            desk = Desk()
+            seats = [f"standup {guest} {holder}" for guest in self.GUESTS for holder in self.HOLDERS]
+            for seat in seats:
+                desk.say(f"seat {seat}")
+            desk.say("book standup ann bob\n" + show_telling(TELLING))
+            shown = ["none", show_telling(TELLING)]
+            for step in range(60):
+                try:
+                    desk.say(self.rows(chance))
+                except GuestError:
+                    pass
+                self.told_at_each_version(shown, desk)
+                for seat in seats:
+                    self.assertIn(desk.say(f"see {seat}"), shown)
+            self.all_comes(chance, desk)
+            guests = [word.split(" ")[0] for word in desk.say("words standup 2026-03-09").split("; ")]
+            for seat in seats:
+                invited = seat.split(" ")[1] in guests
+                self.assertEqual(desk.say(f"see {seat}"), shown[-1] if invited else "none")
+                versions = desk.say(f"versions {seat}").split(" ")
+                self.assertEqual((len(versions), versions[0]), (2, versions[1]))
+
+    def all_comes(self, chance, desk):
+        """Bring all that was never brought, in a drawn order and some of it twice."""
+        refused = set()
+        while left := [number for number in desk.say("waiting").split() if number not in refused]:
+            number = chance.choice(left)
+            try:
+                for again in range(chance.choice((1, 1, 2))):
+                    desk.say(f"bring {number}")
+            except GuestError:
+                # A letter of one who is no guest.
+                refused.add(number)
 
 
 if __name__ == "__main__":
